@@ -12,21 +12,26 @@ const mark = "signet12"
 // wordSize: the bytes of a count, of a length, and of a Crc.
 const wordSize = 4
 
-// A frame is a record that isn't empty. Ahead of it are the count of empty
-// records between it and the frame ahead, and its length; behind it is a Crc of
-// all that. So an empty record takes no room, and Room is 0 where no byte has any.
+// A frame is a record that isn't empty. Ahead of it are its number among all
+// records and its length; behind it is a Crc of all that. A number that no frame
+// has is an empty record's: these take no room, and Room is 0 where no byte has any.
 const (
 	frameAhead = 2 * wordSize
 	frameExtra = frameAhead + wordSize
 )
 
+// maxRecords: the most records that a journal has. Empty ones take no room, so
+// the disk bounds them no more than it bounds what another hand may write of
+// them. The frames of the greatest disk are fewer than this.
+const maxRecords = 1 << 20
+
 // head: how many Commits and Resets there were, in which area the frames are,
-// how many of its bytes are theirs, and how many empty records are behind them.
+// how many of its bytes are theirs, and how many records there are.
 type head struct {
 	commits uint64
 	area    int
 	used    int
-	blanks  int
+	records int
 }
 
 // slot: where h belongs: not where the head ahead of it is.
@@ -38,7 +43,7 @@ func (h head) bytes(size int) []byte {
 	b = appendNumber(b, 8, h.commits)
 	b = appendNumber(b, wordSize, uint64(h.area))
 	b = appendNumber(b, wordSize, uint64(h.used))
-	b = appendNumber(b, wordSize, uint64(h.blanks))
+	b = appendNumber(b, wordSize, uint64(h.records))
 	b = append(b, make([]byte, size-wordSize-len(b))...)
 	return appendNumber(b, wordSize, uint64(Crc(b)))
 }
@@ -46,11 +51,11 @@ func (h head) bytes(size int) []byte {
 // openHead: the head that the sector b is, where areas have so many bytes.
 func openHead(b []byte, areaBytes int) head {
 	rest := b[len(mark):]
-	area, used := number(rest[8:12]), number(rest[12:16])
-	if area >= areaCount || used > uint64(areaBytes) {
+	area, used, records := number(rest[8:12]), number(rest[12:16]), number(rest[16:20])
+	if area >= areaCount || used > uint64(areaBytes) || records > maxRecords {
 		panic(api.ErrLogForm)
 	}
-	h := head{commits: number(rest[:8]), area: int(area), used: int(used), blanks: int(number(rest[16:20]))}
+	h := head{commits: number(rest[:8]), area: int(area), used: int(used), records: int(records)}
 	if !bytes.Equal(b, h.bytes(len(b))) {
 		panic(api.ErrLogForm)
 	}
@@ -68,35 +73,38 @@ func framesSize(l [][]byte) int {
 	return size
 }
 
-// frames: the frames of l's records, ahead of which there are so many empty
-// ones as blanks says; and how many empty ones are behind the last frame then.
-func frames(blanks int, l [][]byte) ([]byte, int) {
+// frames: the frames of l's records, of which the first has the number first.
+func frames(first int, l [][]byte) []byte {
 	out := make([]byte, 0, framesSize(l))
-	for _, record := range l {
+	for i, record := range l {
 		if len(record) == 0 {
-			blanks++
 			continue
 		}
 		start := len(out)
-		out = appendNumber(out, wordSize, uint64(blanks))
+		out = appendNumber(out, wordSize, uint64(first+i))
 		out = appendNumber(out, wordSize, uint64(len(record)))
 		out = append(out, record...)
 		out = appendNumber(out, wordSize, uint64(Crc(out[start:])))
-		blanks = 0
 	}
-	return out, blanks
+	return out
 }
 
-// openFrames: the records of frames that are all of b, and blanks empty ones.
-func openFrames(b []byte, blanks int) [][]byte {
-	var l [][]byte
+// openFrames: so many records, of which frames that are all of b have those
+// that aren't empty, in order.
+func openFrames(b []byte, records int) [][]byte {
+	l := make([][]byte, records)
+	next := uint64(0)
 	for len(b) > 0 {
 		end := frameEnd(b)
-		l = append(l, make([][]byte, number(b[:wordSize]))...)
-		l = append(l, bytes.Clone(b[frameAhead:end-wordSize]))
+		place := number(b[:wordSize])
+		if place < next || place >= uint64(records) {
+			panic(api.ErrLogForm)
+		}
+		l[place] = bytes.Clone(b[frameAhead : end-wordSize])
+		next = place + 1
 		b = b[end:]
 	}
-	return append(l, make([][]byte, blanks)...)
+	return l
 }
 
 // frameEnd: where b's first frame ends; a panic, if it isn't whole.
@@ -105,7 +113,7 @@ func frameEnd(b []byte) int {
 		panic(api.ErrLogForm)
 	}
 	size := number(b[wordSize:frameAhead])
-	if size > uint64(len(b)-frameExtra) {
+	if size == 0 || size > uint64(len(b)-frameExtra) {
 		panic(api.ErrLogForm)
 	}
 	end := int(size) + frameExtra

@@ -80,7 +80,9 @@ func (s store) newest() head {
 		return h
 	}
 	other := openHead(second, s.areaBytes())
-	if other.commits > h.commits {
+	// The count may come round, if another hand began it high: the newer one
+	// is ahead by less than half of all counts.
+	if int64(other.commits-h.commits) > 0 {
 		return other
 	}
 	return h
