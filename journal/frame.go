@@ -6,8 +6,9 @@ import (
 	"signet/api"
 )
 
-// mark: how each head begins.
-const mark = "signet12"
+// mark: how each head begins. Its last byte is the form's number: frames of the
+// first form told other things, and must not be read as these.
+const mark = "journal2"
 
 // wordSize: the bytes of a count, of a length, and of a Crc.
 const wordSize = 4

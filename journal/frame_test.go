@@ -34,7 +34,7 @@ func TestHeadNumbers(t *testing.T) {
 		at, count int
 		n         uint64
 	}{
-		{0, 1, 'S'}, {7, 1, '3'}, // the mark
+		{0, 1, 'J'}, {7, 1, '3'}, {0, 8, 0x7369676e65743132}, // the mark; that of the first form
 		{16, 4, 2}, {16, 4, 1 << 31}, {16, 4, math.MaxUint32}, // the area
 		{20, 4, 4*64 + 1}, {20, 4, 1 << 31}, {20, 4, math.MaxUint32}, // the bytes that are used
 		{20, 4, 1}, {20, 4, 8}, {20, 4, 12}, {20, 4, 4 * 64}, // so many, of noughts: no frames
